@@ -1,0 +1,1 @@
+"""Saylore: how written words are said, by ordered rules and exceptions."""
