@@ -1,6 +1,6 @@
 """What a book is, what its words are, and how what is none is refused."""
 
-from saylore.errors import BadBook, BadWord
+from saylore.errors import BadBook, BadSounds, BadWord
 
 SMALL = "abcdefghijklmnopqrstuvwxyz"
 CAPITALS = "ABCDEFGHIJKLMNOPQRSTUVWXYZ"
@@ -62,6 +62,18 @@ def check_word(letters, word):
         raise BadWord("no word of the book's letters, or too long a one")
 
 
+def check_excepted(letters, word):
+    """BadWord if an exception can't be of this word."""
+    if not is_excepted(letters, word):
+        raise BadWord("no word of the book's letters, or none that an exception can be of")
+
+
+def check_sounds(sounds):
+    """BadSounds if these are no sounds that a word can have."""
+    if not is_sounds(sounds):
+        raise BadSounds("no text of sounds, or too long a one")
+
+
 def is_rule(letters, rule):
     """Tell whether rule can be one of a book of these letters."""
     if not isinstance(rule, tuple) or len(rule) != 4:
@@ -85,7 +97,17 @@ def is_exception(letters, pair):
     if not isinstance(pair, tuple) or len(pair) != 2:
         return False
     word, sounds = pair
-    return is_text(word, letters, 1, LONGEST_EXCEPTION) and is_text(sounds, CAPITALS, 0, LONGEST_SOUNDS)
+    return is_excepted(letters, word) and is_sounds(sounds)
+
+
+def is_excepted(letters, word):
+    """Tell whether word can be that of an exception."""
+    return is_text(word, letters, 1, LONGEST_EXCEPTION)
+
+
+def is_sounds(sounds):
+    """Tell whether sounds can be those of a word."""
+    return is_text(sounds, CAPITALS, 0, LONGEST_SOUNDS)
 
 
 def is_text(text, signs, least, most):

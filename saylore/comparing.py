@@ -1,8 +1,8 @@
 """What holds of all words, of whatever length."""
 
-from saylore.books import EDGE, checked_book, is_count
+from saylore.books import checked_book, is_count
 from saylore.errors import BadCount, OtherLetters
-from saylore.fitting import ending_sounds
+from saylore.fitting import word_sounds
 from saylore.hunts import PartedHunt, UnsaidHunt, UseHunt, least_word
 
 
@@ -49,7 +49,7 @@ def free(book):
 def needless(book):
     """Return the words of exceptions that rules say the same."""
     _, rules, exceptions = checked_book(book)
-    return [word for word, sounds in exceptions if ending_sounds(rules, EDGE + word) == sounds]
+    return [word for word, sounds in exceptions if word_sounds(rules, word) == sounds]
 
 
 def swapped(rules, number):

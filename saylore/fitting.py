@@ -82,6 +82,11 @@ def ending_sounds(rules, tail):
     return sounds_of(rules, numbers)
 
 
+def word_sounds(rules, word):
+    """Return the sounds by which rules say a whole word, None if they don't."""
+    return ending_sounds(rules, EDGE + word)
+
+
 def numbers_of(steps):
     """Return the rules' numbers of steps."""
     return [number for _, number in steps]

@@ -5,7 +5,7 @@ depend on, but for the lead, by which two books' sounds differ so far.
 """
 
 from saylore.books import EDGE
-from saylore.fitting import ending, ending_sounds, sounds_of, taken
+from saylore.fitting import ending, ending_sounds, sounds_of, taken, word_sounds
 
 # The lead where both books' sounds are the same so far, and that of a hunt which compares none.
 EVEN = ("", "")
@@ -150,8 +150,8 @@ class PartedHunt:
         """Tell whether the books don't say the same word alike, of which one at least has an exception."""
         one_sounds = self._one_exceptions.get(word)
         if one_sounds is None:
-            one_sounds = ending_sounds(self._one_rules, EDGE + word)
+            one_sounds = word_sounds(self._one_rules, word)
         other_sounds = self._other_exceptions.get(word)
         if other_sounds is None:
-            other_sounds = ending_sounds(self._other_rules, EDGE + word)
+            other_sounds = word_sounds(self._other_rules, word)
         return one_sounds != other_sounds

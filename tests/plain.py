@@ -73,6 +73,25 @@ def parted(one, other, longest):
     return least(one[0], longest, lambda word: said(one, word) != said(other, word))
 
 
+def writings(book, told, longest):
+    return [word for word in words(book[0], longest) if said(book, word) == told]
+
+
+def least_rules(rules, samples):
+    """All lists of numbers are tried, and of those that say all samples so the shortest, then first one is taken."""
+    good = []
+    for flags in itertools.product((False, True), repeat=len(rules)):
+        numbers = [number for number, is_in in enumerate(flags) if is_in]
+        some = [rules[number] for number in numbers]
+        if all(sounds(some, word) == told for word, told in samples):
+            good.append((len(numbers), numbers))
+    return min(good)[1] if good else None
+
+
+def blamed(rules, samples):
+    return [number for number, (word, told) in enumerate(samples) if sounds(rules, word) != told]
+
+
 def swapped(book, number):
     rules = list(book[1])
     rules[number], rules[number + 1] = rules[number + 1], rules[number]

@@ -2,9 +2,13 @@
 
 import unittest
 
+from saylore.back import writings
 from saylore.comparing import free, idle, needless, parted, unsaid, use
+from saylore.desks import Desk
 from saylore.errors import BadBook
+from saylore.learning import blamed, least
 from saylore.machines import Sayer
+from saylore.notes import written
 from saylore.saying import said, walk
 
 LETTERS = "abc"
@@ -27,7 +31,13 @@ DOORS = {
     "idle": idle,
     "free": free,
     "needless": needless,
+    "writings": lambda book: writings(book, "X"),
+    "Desk": Desk,
+    "written": written,
 }
+
+# Those that take a book's letters and rules alone.
+HALF_DOORS = {"least": least, "blamed": blamed}
 
 
 def with_rule(rule, number=0):
@@ -76,6 +86,9 @@ class Doors(Case):
             lambda book: use(book, -1),
             lambda book: parted(book, None),
             lambda book: parted(("xy", (), ()), book),
+            lambda book: writings(book, "x", long=8),
+            lambda book: least(book[0], book[1], None),
+            lambda book: blamed(book[0], book[1], [None]),
         ]:
             with self.assertRaises(BadBook) as caught:
                 ask((LETTERS, (None,), ()))
@@ -85,6 +98,29 @@ class Doors(Case):
         with self.assertRaises(BadBook) as caught:
             parted((LETTERS, (), None), ("A", (), ()))
         self.assertEqual(caught.exception.part, 2)
+
+
+    def test_half_doors(self):
+        for letters, rules, part, number in [
+            *((letters, RULES, 0, 0) for letters in OTHERS + ["", "a", "ba", "aa", "abcde", "AB", "a#", ("a", "b")]),
+            *((LETTERS, rules, 1, 0) for rules in OTHERS + ["", "a", [RULE], {}]),
+            (LETTERS, (RULE, None), 1, 1),
+            (LETTERS, (RULE, ("", "d", "", "X"), None), 1, 1),
+            (LETTERS, (RULE,) * 13, 1, 12),
+            (LETTERS, (RULE,) * 11 + (None, RULE), 1, 11),
+            ("ba", None, 0, 0),
+        ]:
+            for door, ask in HALF_DOORS.items():
+                for samples in ([], [("a", "X")], None, [None]):
+                    with self.subTest(letters=letters, rules=rules, door=door, samples=samples):
+                        with self.assertRaises(BadBook) as caught:
+                            ask(letters, rules, samples)
+                        self.assertEqual((caught.exception.part, caught.exception.number), (part, number))
+
+    def test_half_doors_take_what_can_be(self):
+        for ask in HALF_DOORS.values():
+            for letters, rules in [("ab", ()), ("wxyz", ()), (LETTERS, RULES), (LETTERS, (RULE,) * 12)]:
+                self.assertEqual(ask(letters, rules, []), [])
 
 
 class Parts(Case):

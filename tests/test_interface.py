@@ -3,7 +3,7 @@
 import inspect
 import unittest
 
-from saylore import comparing, errors, machines, saying
+from saylore import back, comparing, desks, errors, learning, machines, notes, saying
 
 VALUES = {
     "BadBook": ("part", "number"),
@@ -29,6 +29,27 @@ FUNCTIONS = {
         "idle": ["book"],
         "free": ["book"],
         "needless": ["book"],
+    },
+    back: {"writings": ["book", "sounds", "long"]},
+    learning: {"least": ["letters", "rules", "samples"], "blamed": ["letters", "rules", "samples"]},
+    notes: {"written": ["book"], "read": ["text"]},
+}
+
+CLASSES = {
+    machines: {"Sayer": {"feed": ["letter"], "back": [], "end": [], "word": []}},
+    desks: {
+        "Desk": {
+            "book": [],
+            "say": ["word"],
+            "put": ["place", "rule"],
+            "drop": ["place"],
+            "move": ["place", "other"],
+            "learn": ["word", "sounds"],
+            "forget": ["word"],
+            "batch": ["deeds", "keep"],
+            "told": [],
+            "is_idle": [],
+        }
     },
 }
 
@@ -57,13 +78,25 @@ class Interface(unittest.TestCase):
                     self.assertEqual(function.__module__, module.__name__)
                     self.assertEqual(list(inspect.signature(function).parameters), arguments)
 
-    def test_the_sayer_has_its_methods_itself(self):
-        self.assertEqual(machines.Sayer.__module__, "saylore.machines")
-        self.assertEqual(list(inspect.signature(machines.Sayer).parameters), ["book"])
-        for name, arguments in {"feed": ["letter"], "back": [], "end": [], "word": []}.items():
-            with self.subTest(name=name):
-                method = vars(machines.Sayer)[name]
-                self.assertEqual(list(inspect.signature(method).parameters), ["self", *arguments])
+    def test_classes_have_their_methods_themselves(self):
+        for module, classes in CLASSES.items():
+            for name, methods in classes.items():
+                made = getattr(module, name)
+                self.assertEqual(made.__module__, module.__name__)
+                self.assertEqual(list(inspect.signature(made).parameters), ["book"])
+                for word, arguments in methods.items():
+                    with self.subTest(name=name, method=word):
+                        method = vars(made)[word]
+                        self.assertEqual(list(inspect.signature(method).parameters), ["self", *arguments])
+
+    def test_what_stands_behind_the_star(self):
+        for function, name, default in [(back.writings, "long", 5), (desks.Desk.batch, "keep", True)]:
+            parameter = inspect.signature(function).parameters[name]
+            self.assertIs(parameter.kind, inspect.Parameter.KEYWORD_ONLY)
+            self.assertEqual(parameter.default, default)
+        self.assertEqual(back.LONG, 5)
+        self.assertRaises(TypeError, back.writings, ("ab", (), ()), "", 3)
+        self.assertRaises(TypeError, desks.Desk(("ab", (), ())).batch, [], True)
 
 
 if __name__ == "__main__":
